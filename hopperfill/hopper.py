@@ -14,13 +14,11 @@ NEVER = -33
 TOO_HEAVY = -41
 
 MOST_SHIPS = 4
-MOST_FLOW = 200
-MOST_SOLID = 60
 MOST_POURED = 10000
 MOST_REST = 2000
 
 # The least and the most of room, empty, most, flow, solid and loss.
-SHIP_RANGES = ((1, 10000), (1, 20000), (1, 20000), (1, MOST_FLOW), (1, MOST_SOLID), (0, 10))
+SHIP_RANGES = ((1, 10000), (1, 20000), (1, 20000), (1, 200), (1, 60), (0, 10))
 
 BEGIN = 0
 DRAFT = 17
@@ -69,6 +67,11 @@ def outside(number, least, most):
     return number < least or number > most
 
 
+def any_outside(numbers, ranges):
+    """Tell whether one of the numbers is out of the range that stands at its place."""
+    return any([outside(number, limits[0], limits[1]) for number, limits in zip(numbers, ranges)])
+
+
 def answer_begin(fleet, numbers):
     """begin: there is nothing."""
     fleet.begun = True
@@ -78,9 +81,8 @@ def answer_begin(fleet, numbers):
 
 def answer_ship(fleet, numbers):
     """ship: one more, empty."""
-    for number, limits in zip(numbers, SHIP_RANGES):
-        if outside(number, limits[0], limits[1]):
-            return [OUT_OF_RANGE]
+    if any_outside(numbers, SHIP_RANGES):
+        return [OUT_OF_RANGE]
     if len(fleet.ships) >= MOST_SHIPS:
         return [TOO_MANY]
     fleet.ships.append(Ship(numbers[0], numbers[1], numbers[2], numbers[3], numbers[4], numbers[5]))
@@ -124,7 +126,8 @@ def answer_pour(ship, numbers):
 
 def answer_change(ship, numbers):
     """change: another flow and solid, while it is empty."""
-    if outside(numbers[0], 1, MOST_FLOW) or outside(numbers[1], 1, MOST_SOLID):
+    # Of a ship's ranges those of flow and solid.
+    if any_outside(numbers, SHIP_RANGES[3:5]):
         return [OUT_OF_RANGE]
     if ship.load.minutes > 0:
         return [NOT_NOW]

@@ -80,6 +80,16 @@ class TestForm(unittest.TestCase):
                 if isinstance(node, ast.Try):
                     self.assertEqual(node.finalbody, [])
 
+    def test_the_top_of_a_file(self):
+        for file in FILES:
+            for node in ast.parse(file.read_text("utf-8")).body:
+                self.assertIsInstance(node, (ast.Expr, ast.ImportFrom, ast.FunctionDef, ast.ClassDef, ast.Assign))
+                if isinstance(node, ast.Assign):
+                    functions = isinstance(node.value, ast.Dict) and all(
+                        isinstance(value, ast.Name) for value in node.value.values)
+                    if not functions:
+                        ast.literal_eval(node.value)
+
     def test_functions(self):
         for file in FILES:
             for node in walked(file):
