@@ -49,6 +49,11 @@ def hundredths_of_tons(load):
     return (load.sand * SAND_WEIGHS + load.water * WATER_WEIGHS) // HUNDREDTHS
 
 
+def whole_tons(load):
+    """Tell what a load weighs in tons, rounded down."""
+    return hundredths_of_tons(load) // HUNDREDTHS
+
+
 def may_carry(ship, load):
     """Tell whether the ship may be loaded so."""
     return hundredths_of_tons(load) <= ship.most * HUNDREDTHS
@@ -94,6 +99,11 @@ def loads_on(ship, load, n):
 def loads_from_empty(ship, n):
     """Give the loads behind 0 to n minutes from empty, whether they may be so or not."""
     return loads_on(ship, empty_load(), n)
+
+
+def load_from_empty(ship, n):
+    """Give the load behind n minutes from empty, whether it may be so or not."""
+    return loads_from_empty(ship, n)[n]
 
 
 def allowed_loads(ship):

@@ -1,7 +1,8 @@
 """The calls on one object: how they are read from a list, and what each of them answers."""
 
-from hopperfill.filling import HUNDREDTHS, MOST_MINUTES, Ship, allowed_loads, best_load, empty_load
-from hopperfill.filling import hundredths_of_tons, loads_from_empty, loads_on, may_carry, poured
+from hopperfill.drafts import depth_at, in_table, is_table
+from hopperfill.filling import HUNDREDTHS, MOST_MINUTES, Ship, allowed_loads, best_load, empty_load, kept_hundredths
+from hopperfill.filling import load_from_empty, loads_from_empty, loads_on, may_carry, poured, whole_tons
 
 NO_SUCH_SHIP = -2
 NONE_THERE = -6
@@ -16,15 +17,16 @@ TOO_HEAVY = -41
 MOST_SHIPS = 4
 MOST_POURED = 10000
 MOST_REST = 2000
+MOST_DAY = 100000
+MOST_REACHED = 10000
+
+MINUTES_OF_HOUR = 60
 
 # The least and the most of room, empty, most, flow, solid and loss.
 SHIP_RANGES = ((1, 10000), (1, 20000), (1, 20000), (1, 200), (1, 60), (0, 10))
 
 BEGIN = 0
 DRAFT = 17
-
-# The calls that name no ship: begin, ship, fullest, sums, state.
-WITHOUT_SHIP = (0, 1, 18, 21, 22)
 
 # How many whole numbers stand behind the number of each call, from begin, 0, to state, 22.
 WHOLE_NUMBERS = (0, 6, 2, 1, 2, 3, 1, 1, 2, 1, 1, 2, 3, 3, 2, 2, 1, 1, 0, 2, 1, 0, 0)
@@ -145,7 +147,7 @@ def answer_load(ship, numbers):
 
 def answer_weight(ship, numbers):
     """weight: in whole tons, alone and with the empty ship, and what it may carry."""
-    tons = hundredths_of_tons(ship.load) // HUNDREDTHS
+    tons = whole_tons(ship.load)
     return [tons, tons + ship.empty, ship.most]
 
 
@@ -154,7 +156,7 @@ def answer_after(ship, numbers):
     n = numbers[0]
     if n > MOST_MINUTES:
         return [OUT_OF_RANGE]
-    load = loads_from_empty(ship, n)[n]
+    load = load_from_empty(ship, n)
     allowed = 1 if may_carry(ship, load) else 0
     return [load.sand, load.water, load.overflow, load.gone, allowed]
 
@@ -179,10 +181,121 @@ def answer_best(ship, numbers):
     if outside(rest, 1, MOST_REST):
         return [OUT_OF_RANGE]
     load = best_load(ship, rest)
-    return [load.minutes, load.sand, load.sand * 60 // (load.minutes + rest)]
+    return [load.minutes, load.sand, load.sand * MINUTES_OF_HOUR // (load.minutes + rest)]
 
 
-FLEET_CALLS = {0: answer_begin, 1: answer_ship}
+def answer_rate(ship, numbers):
+    """rate: how much sand an hour it is to stop n minutes from empty, and what the division leaves."""
+    n = numbers[0]
+    rest = numbers[1]
+    if n > MOST_MINUTES or outside(rest, 1, MOST_REST):
+        return [OUT_OF_RANGE]
+    sand = load_from_empty(ship, n).sand * MINUTES_OF_HOUR
+    return [sand // (n + rest), sand % (n + rest)]
+
+
+def answer_trips(ship, numbers):
+    """trips: how many whole ones there are in so many minutes, their sand, and the best minute."""
+    rest = numbers[0]
+    day = numbers[1]
+    if outside(rest, 1, MOST_REST) or day > MOST_DAY:
+        return [OUT_OF_RANGE]
+    load = best_load(ship, rest)
+    trips = day // (load.minutes + rest)
+    return [trips, trips * load.sand, load.minutes]
+
+
+def answer_keeps(ship, numbers):
+    """keeps: how many hundredths of the sand stay in the k-th minute of overflow."""
+    k = numbers[0]
+    if k > MOST_MINUTES:
+        return [OUT_OF_RANGE]
+    return [kept_hundredths(ship, k)]
+
+
+def answer_lost(ship, numbers):
+    """lost: how many thousandths of the sand of n minutes from empty go over, and how much that is."""
+    n = numbers[0]
+    if outside(n, 1, MOST_MINUTES):
+        return [OUT_OF_RANGE]
+    load = load_from_empty(ship, n)
+    came = load.sand + load.gone
+    return [load.gone * 1000 // came, load.gone]
+
+
+def answer_wet(ship, numbers):
+    """wet: how many thousandths of what is in it are water."""
+    load = ship.load
+    if load.minutes == 0:
+        return [NONE_THERE]
+    # Of the first minute some sand stays always, and it is not poured out: there is something to divide by.
+    return [load.water * 1000 // (load.sand + load.water)]
+
+
+def answer_draft(ship, table):
+    """draft: how deep the ship lies by the table, with what is in it."""
+    if not is_table(table):
+        return [OUT_OF_RANGE]
+    tons = whole_tons(ship.load) + ship.empty
+    if not in_table(table, tons):
+        return [NEVER]
+    return [depth_at(table, tons)]
+
+
+def answer_fullest(fleet, numbers):
+    """fullest: the ship with the greatest part of its room full of sand, its sand, its room."""
+    if len(fleet.ships) == 0:
+        return [NONE_THERE]
+    place = 0
+    for other, ship in enumerate(fleet.ships):
+        fullest = fleet.ships[place]
+        # Multiplied crosswise the parts compare exactly; only a greater one wins, so the first stays.
+        if ship.load.sand * fullest.room > fullest.load.sand * ship.room:
+            place = other
+    return [place, fleet.ships[place].load.sand, fleet.ships[place].room]
+
+
+def answer_reaches(ship, numbers):
+    """reaches: the first of the allowed minutes behind which there are so many cubic metres of sand."""
+    n = numbers[0]
+    if n > MOST_REACHED:
+        return [OUT_OF_RANGE]
+    for load in allowed_loads(ship):
+        if load.sand >= n * HUNDREDTHS:
+            return [load.minutes]
+    return [NEVER]
+
+
+def answer_look(ship, numbers):
+    """look: the ship as it was told, or as it was changed since."""
+    return [ship.room, ship.empty, ship.most, ship.flow, ship.solid, ship.loss]
+
+
+def answer_sums(fleet, numbers):
+    """sums: of all ships the trips, the sand that they carried, and the sand in the hoppers."""
+    trips = sum([ship.trips for ship in fleet.ships])
+    carried = sum([ship.carried for ship in fleet.ships])
+    aboard = sum([ship.load.sand for ship in fleet.ships])
+    return [0, trips, carried, aboard]
+
+
+def answer_state(fleet, numbers):
+    """state: how many ships, and of each the trips and the sand that they carried."""
+    told = [len(fleet.ships)]
+    for ship in fleet.ships:
+        told.append(ship.trips)
+        told.append(ship.carried)
+    return told
+
+
+# The calls that name no ship.
+FLEET_CALLS = {
+    0: answer_begin,
+    1: answer_ship,
+    18: answer_fullest,
+    21: answer_sums,
+    22: answer_state,
+}
 
 SHIP_CALLS = {
     2: answer_fill,
@@ -195,22 +308,21 @@ SHIP_CALLS = {
     9: answer_full,
     10: answer_longest,
     11: answer_best,
+    12: answer_rate,
+    13: answer_trips,
+    14: answer_keeps,
+    15: answer_lost,
+    16: answer_wet,
+    17: answer_draft,
+    19: answer_reaches,
+    20: answer_look,
 }
-
-
-def answer_without_ship(fleet, number, numbers):
-    """Answer a call that names no ship."""
-    if number not in FLEET_CALLS:
-        raise NotImplementedError(f"call {number}")
-    return FLEET_CALLS[number](fleet, numbers)
 
 
 def answer_with_ship(fleet, number, numbers):
     """Answer a call whose first number is a ship's; the others are handed on."""
     if numbers[0] >= len(fleet.ships):
         return [NO_SUCH_SHIP]
-    if number not in SHIP_CALLS:
-        raise NotImplementedError(f"call {number}")
     return SHIP_CALLS[number](fleet.ships[numbers[0]], numbers[1:])
 
 
@@ -218,8 +330,8 @@ def answer_call(fleet, number, numbers):
     """Answer one call: a list of its numbers, a refusal alone in it."""
     if number != BEGIN and not fleet.begun:
         return [NOT_BEGUN]
-    if number in WITHOUT_SHIP:
-        return answer_without_ship(fleet, number, numbers)
+    if number in FLEET_CALLS:
+        return FLEET_CALLS[number](fleet, numbers)
     return answer_with_ship(fleet, number, numbers)
 
 
